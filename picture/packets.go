@@ -1,0 +1,169 @@
+package picture
+
+import (
+	"iter"
+
+	"genlock/api"
+)
+
+// Where the parts of a frame begin.
+const (
+	kindAt    = 1
+	counterAt = 2
+	dataAt    = 3
+	parityAt  = 13
+	checkAt   = 14
+)
+
+// The numbers of the check of a frame.
+const (
+	checkFactor  = 251
+	checkModulus = 65521
+)
+
+// counters is how many counters there are; 0 follows the last one.
+const counters = 256
+
+// Packet is ten bytes of a kind, with a counter.
+type Packet struct {
+	Kind    int
+	Counter int
+	Data    [10]byte
+}
+
+// Encode returns the frame of a packet.
+func Encode(p Packet) ([Size]byte, api.Errno) {
+	if e := packetError(p); e != api.OK {
+		return [Size]byte{}, e
+	}
+	frame := [Size]byte{0: Sync, kindAt: byte(p.Kind), counterAt: byte(p.Counter)}
+	copy(frame[dataAt:parityAt], p.Data[:])
+	frame[parityAt] = parity(frame[kindAt:parityAt])
+	sum := check(frame[:checkAt], checkFactor, checkModulus)
+	frame[checkAt], frame[checkAt+1] = byte(sum>>8), byte(sum)
+	return frame, api.OK
+}
+
+// Decode returns the packet of a frame.
+func Decode(s [Size]byte) (Packet, api.Errno) {
+	if s[0] != Sync {
+		return Packet{}, api.ErrForm
+	}
+	p := Packet{Kind: int(s[kindAt]), Counter: int(s[counterAt])}
+	copy(p.Data[:], s[dataAt:parityAt])
+	if frame, e := Encode(p); e != api.OK || frame != s {
+		return Packet{}, api.ErrCheck
+	}
+	return p, api.OK
+}
+
+// Received returns the packets of a stream, and what is skipped.
+func Received(s []byte) ([]Packet, []api.Span, api.Errno) {
+	if len(s) > MaxPackets*Size {
+		return nil, nil, api.ErrLong
+	}
+	var packets []Packet
+	var skipped []api.Span
+	next := 0
+	for at := range visited(s) {
+		if at < next {
+			continue
+		}
+		p, ok := packetAt(s, at)
+		if ok {
+			packets = append(packets, p)
+			next = at + Size
+		} else {
+			skipped = withPlace(skipped, at)
+		}
+	}
+	return packets, skipped, api.OK
+}
+
+// Lost returns the counters of a kind that are lost.
+func Lost(l []Packet, kind int) ([]int, api.Errno) {
+	e := first(errorIf(len(l) > MaxPackets, api.ErrMany), first(mapped(l, packetError)...), outside(kind, 0, counters-1))
+	if e != api.OK {
+		return nil, e
+	}
+	var lost []int
+	var last Packet
+	begun := false
+search:
+	for _, p := range l {
+		if p.Kind != kind {
+			continue
+		}
+		for due := following(last, p); begun && due != p; due = following(due, p) {
+			lost = append(lost, due.Counter)
+			if len(lost) > api.MaxList {
+				break search
+			}
+		}
+		last, begun = p, true
+	}
+	if len(lost) > api.MaxList {
+		return nil, api.ErrMany
+	}
+	return lost, api.OK
+}
+
+// packetError returns the error of a packet, or OK.
+func packetError(p Packet) api.Errno {
+	return first(outside(p.Kind, 0, 255), outside(p.Counter, 0, counters-1))
+}
+
+// packetAt returns the packet whose frame the bytes from a place on are, and whether they are one.
+func packetAt(s []byte, at int) (Packet, bool) {
+	if len(s)-at < Size {
+		return Packet{}, false
+	}
+	var frame [Size]byte
+	copy(frame[:], s[at:])
+	p, e := Decode(frame)
+	return p, e == api.OK
+}
+
+// withPlace returns ascending spans with a place behind them all; spans that touch are one.
+func withPlace(l []api.Span, at int) []api.Span {
+	if n := len(l); n > 0 && l[n-1].To == at {
+		l[n-1].To++
+		return l
+	}
+	return append(l, api.Span{From: at, To: at + 1})
+}
+
+// following returns a packet like p, but with the counter that follows the last one's.
+func following(last, p Packet) Packet {
+	p.Counter = (last.Counter + 1) % counters
+	return p
+}
+
+// parity returns the exclusive or of bytes.
+func parity(s []byte) byte {
+	var parity byte
+	for _, b := range visited(s) {
+		parity ^= b
+	}
+	return parity
+}
+
+// check returns the check of bytes with a factor and a modulus.
+func check(s []byte, factor, modulus int) int {
+	x := 1
+	for _, b := range visited(s) {
+		x = (factor*x + int(b)) % modulus
+	}
+	return x
+}
+
+// visited returns the places of a stream, with their bytes.
+func visited(s []byte) iter.Seq2[int, byte] {
+	return func(yield func(int, byte) bool) {
+		for at, b := range s {
+			if !yield(at, b) {
+				return
+			}
+		}
+	}
+}

@@ -1,0 +1,106 @@
+package picture
+
+import (
+	"math"
+	"slices"
+
+	"genlock/api"
+)
+
+// mark is what the stream of a picture begins with.
+const mark = "PICT"
+
+// The numbers of the checksum of a stream.
+const (
+	sumFactor  = 263
+	sumModulus = 16777183
+)
+
+// wordSize is the number of bytes of a sample, and of the checksum.
+const wordSize = 4
+
+// Pack returns the stream of a picture.
+func Pack(p Picture) ([]byte, api.Errno) {
+	if e := CheckPicture(p); e != api.OK {
+		return nil, e
+	}
+	s := []byte(mark)
+	s = append(s, byte(len(p.Name)))
+	s = append(s, p.Name...)
+	s = append(s, byte(p.Width), byte(p.Height))
+	for _, n := range levels(p) { // by way of the levels, -0 becomes 0
+		s = appendWord(s, math.Float32bits(sample(n)))
+	}
+	return appendWord(s, checksum(s)), api.OK
+}
+
+// Unpack returns the picture of a stream.
+func Unpack(s []byte) (Picture, api.Errno) {
+	if len(s) > api.MaxStream {
+		return Picture{}, api.ErrLong
+	}
+	p, rest, e := unpackHead(s)
+	if e != api.OK {
+		return Picture{}, e
+	}
+	size := p.Width * p.Height * wordSize
+	e = first(
+		errorIf(len(rest) < size+wordSize, api.ErrTorn),
+		errorIf(len(rest) > size+wordSize, api.ErrShape),
+	)
+	if e != api.OK {
+		return Picture{}, e
+	}
+	if word(rest[size:]) != checksum(s[:len(s)-wordSize]) {
+		return Picture{}, api.ErrCheck
+	}
+	for i := range p.Width * p.Height {
+		p.Samples = append(p.Samples, math.Float32frombits(word(rest[i*wordSize:])))
+	}
+	e = first(CheckPicture(p), errorIf(slices.ContainsFunc(p.Samples, isMinusZero), api.ErrForm))
+	if e != api.OK {
+		return Picture{}, e
+	}
+	return p, api.OK
+}
+
+// unpackHead returns the name and the size at the beginning of a stream, and what stands behind them.
+func unpackHead(s []byte) (Picture, []byte, api.Errno) {
+	if len(s) < len(mark) {
+		return Picture{}, nil, api.ErrTorn
+	}
+	if string(s[:len(mark)]) != mark {
+		return Picture{}, nil, api.ErrForm
+	}
+	rest := s[len(mark):]
+	if len(rest) < 1 {
+		return Picture{}, nil, api.ErrTorn
+	}
+	length := int(rest[0])
+	rest = rest[1:]
+	if len(rest) < length+2 {
+		return Picture{}, nil, api.ErrTorn
+	}
+	p := Picture{Name: string(rest[:length]), Width: int(rest[length]), Height: int(rest[length+1])}
+	return p, rest[length+2:], api.OK
+}
+
+// appendWord returns a stream with four more bytes, the highest one first.
+func appendWord(s []byte, n uint32) []byte {
+	return append(s, byte(n>>24), byte(n>>16), byte(n>>8), byte(n))
+}
+
+// word returns the number of the first four bytes.
+func word(s []byte) uint32 {
+	return uint32(s[0])<<24 | uint32(s[1])<<16 | uint32(s[2])<<8 | uint32(s[3])
+}
+
+// checksum returns the checksum of bytes.
+func checksum(s []byte) uint32 {
+	return uint32(check(s, sumFactor, sumModulus))
+}
+
+// isMinusZero reports whether a sample is -0.
+func isMinusZero(x float32) bool {
+	return x == 0 && math.Signbit(float64(x))
+}
