@@ -4,6 +4,7 @@ import (
 	"math"
 
 	"genlock/api"
+	"genlock/common"
 )
 
 // The generator of permutations: x is replaced by its multiple, modulo a prime.
@@ -11,9 +12,6 @@ const (
 	drawFactor  = 1226874159
 	drawModulus = 2147483647
 )
-
-// parts is how many levels lie between two whole numbers.
-const parts = 16
 
 // IsName reports whether a string is a name.
 func IsName(s string) bool {
@@ -38,7 +36,7 @@ func isDigit(r rune) bool {
 
 // Draw returns the permutation of n elements by a key.
 func Draw(key, n int) ([]int, api.Errno) {
-	e := first(outside(key, 1, drawModulus-1), outside(n, 0, api.MaxList))
+	e := common.First(common.Outside(key, 1, drawModulus-1), common.Outside(n, 0, api.MaxList))
 	if e != api.OK {
 		return nil, e
 	}
@@ -57,10 +55,10 @@ func Draw(key, n int) ([]int, api.Errno) {
 
 // CheckRatio returns the error of a ratio, or OK.
 func CheckRatio(x api.Ratio) api.Errno {
-	return first(
-		outside(x.Num, -api.MaxNumber, api.MaxNumber),
-		outside(x.Den, 1, api.MaxNumber),
-		errorIf(divisor(x.Num, x.Den) > 1, api.ErrForm),
+	return common.First(
+		common.Outside(x.Num, -api.MaxNumber, api.MaxNumber),
+		common.Outside(x.Den, 1, api.MaxNumber),
+		common.ErrorIf(common.Divisor(x.Num, x.Den) > 1, api.ErrForm),
 	)
 }
 
@@ -71,65 +69,10 @@ func CheckSample(x float32) api.Errno {
 
 // checkNumber returns the error of a multiple of 1/16 with a greatest absolute value.
 func checkNumber(x float32, most float64) api.Errno {
-	// In float64 no float32 overflows when it is multiplied by parts.
+	// In float64 no float32 overflows when it is multiplied by common.Parts.
 	wide := float64(x)
-	return first(
-		errorIf(math.IsNaN(wide) || math.IsInf(wide, 0), api.ErrForm),
-		errorIf(math.Abs(wide) > most || wide*parts != math.Trunc(wide*parts), api.ErrRange),
+	return common.First(
+		common.ErrorIf(math.IsNaN(wide) || math.IsInf(wide, 0), api.ErrForm),
+		common.ErrorIf(math.Abs(wide) > most || wide*common.Parts != math.Trunc(wide*common.Parts), api.ErrRange),
 	)
-}
-
-// level returns the integer of a sample.
-func level(x float32) int {
-	return int(x * parts)
-}
-
-// sample returns the sample with an integer; it is never -0.
-func sample(level int) float32 {
-	return float32(level) / parts
-}
-
-// isLarge reports whether an integer is not that of a sample.
-func isLarge(level int) bool {
-	return level < -api.MaxValue*parts || level > api.MaxValue*parts
-}
-
-// divisor returns the greatest common divisor of two numbers; it is 0 for two zeros.
-func divisor(a, b int) int {
-	for b != 0 {
-		a, b = b, a%b
-	}
-	return max(a, -a)
-}
-
-// first returns the first error of some, or OK.
-func first(l ...api.Errno) api.Errno {
-	for _, e := range l {
-		if e != api.OK {
-			return e
-		}
-	}
-	return api.OK
-}
-
-// errorIf returns an error if something is wrong, otherwise OK.
-func errorIf(wrong bool, e api.Errno) api.Errno {
-	if wrong {
-		return e
-	}
-	return api.OK
-}
-
-// outside returns ErrRange if a number is not from low to high, otherwise OK.
-func outside(n, low, high int) api.Errno {
-	return errorIf(n < low || n > high, api.ErrRange)
-}
-
-// mapped returns a list of what becomes of each element of another one.
-func mapped[A, B any](l []A, change func(A) B) []B {
-	changed := make([]B, len(l))
-	for i, x := range l {
-		changed[i] = change(x)
-	}
-	return changed
 }

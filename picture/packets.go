@@ -4,6 +4,7 @@ import (
 	"iter"
 
 	"genlock/api"
+	"genlock/common"
 )
 
 // Where the parts of a frame begin.
@@ -82,7 +83,7 @@ func Received(s []byte) ([]Packet, []api.Span, api.Errno) {
 
 // Lost returns the counters of a kind that are lost.
 func Lost(l []Packet, kind int) ([]int, api.Errno) {
-	e := first(errorIf(len(l) > MaxPackets, api.ErrMany), first(mapped(l, packetError)...), outside(kind, 0, counters-1))
+	e := common.First(common.ErrorIf(len(l) > MaxPackets, api.ErrMany), common.FirstOf(l, packetError), common.Outside(kind, 0, counters-1))
 	if e != api.OK {
 		return nil, e
 	}
@@ -110,7 +111,7 @@ search:
 
 // packetError returns the error of a packet, or OK.
 func packetError(p Packet) api.Errno {
-	return first(outside(p.Kind, 0, 255), outside(p.Counter, 0, counters-1))
+	return common.First(common.Outside(p.Kind, 0, 255), common.Outside(p.Counter, 0, counters-1))
 }
 
 // packetAt returns the packet whose frame the bytes from a place on are, and whether they are one.

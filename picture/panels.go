@@ -2,6 +2,7 @@ package picture
 
 import (
 	"genlock/api"
+	"genlock/common"
 )
 
 // powers has the powers of -i, from the power 0 on.
@@ -12,7 +13,7 @@ const back = 3
 
 // Four returns the transform of four samples.
 func Four(l [4]float32) ([4]complex64, api.Errno) {
-	if e := first(mapped(l[:], CheckSample)...); e != api.OK {
+	if e := common.FirstOf(l[:], CheckSample); e != api.OK {
 		return [4]complex64{}, e
 	}
 	var numbers [4]complex64
@@ -24,7 +25,7 @@ func Four(l [4]float32) ([4]complex64, api.Errno) {
 
 // Unfour returns the samples of a panel.
 func Unfour(p [4]complex64) ([4]float32, api.Errno) {
-	if e := first(mapped(p[:], checkPoint)...); e != api.OK {
+	if e := common.FirstOf(p[:], checkPoint); e != api.OK {
 		return [4]float32{}, e
 	}
 	var l [4]float32
@@ -40,7 +41,7 @@ func Unfour(p [4]complex64) ([4]float32, api.Errno) {
 // checkPoint returns the error of a number of a panel, or OK.
 func checkPoint(z complex64) api.Errno {
 	a, b := checkNumber(real(z), 4*api.MaxValue), checkNumber(imag(z), 4*api.MaxValue)
-	return first(errorIf(a == api.ErrForm || b == api.ErrForm, api.ErrForm), a, b)
+	return common.First(common.ErrorIf(a == api.ErrForm || b == api.ErrForm, api.ErrForm), a, b)
 }
 
 // turned returns at each k the sum over n of the number n times -i to the power of step k n. All sums on the way have at most 19 bits, so that they are exact in complex64.

@@ -3,6 +3,7 @@ package picture
 
 import (
 	"genlock/api"
+	"genlock/common"
 )
 
 // Limits of pictures and packets, and the form of frames.
@@ -23,24 +24,24 @@ type Picture struct {
 
 // CheckPicture returns the first error of a picture, or OK.
 func CheckPicture(p Picture) api.Errno {
-	e := first(
-		errorIf(!IsName(p.Name), api.ErrName),
-		outside(p.Width, 1, api.MaxSide),
-		outside(p.Height, 1, api.MaxSide),
-		errorIf(len(p.Samples) != p.Width*p.Height, api.ErrShape),
+	e := common.First(
+		common.ErrorIf(!IsName(p.Name), api.ErrName),
+		common.Outside(p.Width, 1, api.MaxSide),
+		common.Outside(p.Height, 1, api.MaxSide),
+		common.ErrorIf(len(p.Samples) != p.Width*p.Height, api.ErrShape),
 	)
 	if e != api.OK {
 		return e
 	}
-	return first(mapped(p.Samples, CheckSample)...)
+	return common.FirstOf(p.Samples, CheckSample)
 }
 
 // At returns the sample in a column and a row.
 func At(p Picture, x, y int) (float32, api.Errno) {
-	e := first(
+	e := common.First(
 		CheckPicture(p),
-		errorIf(x < 0 || x >= p.Width, api.ErrUnknown),
-		errorIf(y < 0 || y >= p.Height, api.ErrUnknown),
+		common.ErrorIf(x < 0 || x >= p.Width, api.ErrUnknown),
+		common.ErrorIf(y < 0 || y >= p.Height, api.ErrUnknown),
 	)
 	if e != api.OK {
 		return 0, e
@@ -50,7 +51,7 @@ func At(p Picture, x, y int) (float32, api.Errno) {
 
 // Cropped returns the part in some columns and rows.
 func Cropped(p Picture, columns, rows api.Span) (Picture, api.Errno) {
-	e := first(CheckPicture(p), spanError(columns, p.Width), spanError(rows, p.Height))
+	e := common.First(CheckPicture(p), spanError(columns, p.Width), spanError(rows, p.Height))
 	if e != api.OK {
 		return Picture{}, e
 	}
@@ -63,11 +64,11 @@ func Cropped(p Picture, columns, rows api.Span) (Picture, api.Errno) {
 
 // Beside returns two pictures beside each other.
 func Beside(a, b Picture) (Picture, api.Errno) {
-	e := first(
+	e := common.First(
 		CheckPicture(a),
 		CheckPicture(b),
-		errorIf(a.Height != b.Height, api.ErrShape),
-		errorIf(a.Width+b.Width > api.MaxSide, api.ErrMany),
+		common.ErrorIf(a.Height != b.Height, api.ErrShape),
+		common.ErrorIf(a.Width+b.Width > api.MaxSide, api.ErrMany),
 	)
 	if e != api.OK {
 		return Picture{}, e
@@ -82,11 +83,11 @@ func Beside(a, b Picture) (Picture, api.Errno) {
 
 // Above returns a picture above another one.
 func Above(a, b Picture) (Picture, api.Errno) {
-	e := first(
+	e := common.First(
 		CheckPicture(a),
 		CheckPicture(b),
-		errorIf(a.Width != b.Width, api.ErrShape),
-		errorIf(a.Height+b.Height > api.MaxSide, api.ErrMany),
+		common.ErrorIf(a.Width != b.Width, api.ErrShape),
+		common.ErrorIf(a.Height+b.Height > api.MaxSide, api.ErrMany),
 	)
 	if e != api.OK {
 		return Picture{}, e
@@ -128,7 +129,7 @@ func Transposed(p Picture) (Picture, api.Errno) {
 
 // Fields returns both fields of a picture.
 func Fields(p Picture) ([2]Picture, api.Errno) {
-	e := first(CheckPicture(p), errorIf(p.Height == 1, api.ErrShort))
+	e := common.First(CheckPicture(p), common.ErrorIf(p.Height == 1, api.ErrShort))
 	if e != api.OK {
 		return [2]Picture{}, e
 	}
@@ -144,12 +145,12 @@ func Fields(p Picture) ([2]Picture, api.Errno) {
 
 // Woven returns the picture with two fields.
 func Woven(a, b Picture) (Picture, api.Errno) {
-	e := first(
+	e := common.First(
 		CheckPicture(a),
 		CheckPicture(b),
-		errorIf(a.Width != b.Width, api.ErrShape),
-		errorIf(a.Height != b.Height && a.Height != b.Height+1, api.ErrShape),
-		errorIf(a.Height+b.Height > api.MaxSide, api.ErrMany),
+		common.ErrorIf(a.Width != b.Width, api.ErrShape),
+		common.ErrorIf(a.Height != b.Height && a.Height != b.Height+1, api.ErrShape),
+		common.ErrorIf(a.Height+b.Height > api.MaxSide, api.ErrMany),
 	)
 	if e != api.OK {
 		return Picture{}, e
@@ -174,5 +175,5 @@ func row(p Picture, y int) []float32 {
 
 // spanError returns the error of a span of columns or rows of which there are n.
 func spanError(s api.Span, n int) api.Errno {
-	return errorIf(s.From < 0 || s.From >= s.To || s.To > n, api.ErrSpan)
+	return common.ErrorIf(s.From < 0 || s.From >= s.To || s.To > n, api.ErrSpan)
 }

@@ -5,6 +5,7 @@ import (
 	"slices"
 
 	"genlock/api"
+	"genlock/common"
 )
 
 // mark is what the stream of a picture begins with.
@@ -28,8 +29,8 @@ func Pack(p Picture) ([]byte, api.Errno) {
 	s = append(s, byte(len(p.Name)))
 	s = append(s, p.Name...)
 	s = append(s, byte(p.Width), byte(p.Height))
-	for _, n := range levels(p) { // by way of the levels, -0 becomes 0
-		s = appendWord(s, math.Float32bits(sample(n)))
+	for _, n := range common.Levels(p.Samples) { // by way of the levels, -0 becomes 0
+		s = appendWord(s, math.Float32bits(common.Sample(n)))
 	}
 	return appendWord(s, checksum(s)), api.OK
 }
@@ -44,9 +45,9 @@ func Unpack(s []byte) (Picture, api.Errno) {
 		return Picture{}, e
 	}
 	size := p.Width * p.Height * wordSize
-	e = first(
-		errorIf(len(rest) < size+wordSize, api.ErrTorn),
-		errorIf(len(rest) > size+wordSize, api.ErrShape),
+	e = common.First(
+		common.ErrorIf(len(rest) < size+wordSize, api.ErrTorn),
+		common.ErrorIf(len(rest) > size+wordSize, api.ErrShape),
 	)
 	if e != api.OK {
 		return Picture{}, e
@@ -57,7 +58,7 @@ func Unpack(s []byte) (Picture, api.Errno) {
 	for i := range p.Width * p.Height {
 		p.Samples = append(p.Samples, math.Float32frombits(word(rest[i*wordSize:])))
 	}
-	e = first(CheckPicture(p), errorIf(slices.ContainsFunc(p.Samples, isMinusZero), api.ErrForm))
+	e = common.First(CheckPicture(p), common.ErrorIf(slices.ContainsFunc(p.Samples, isMinusZero), api.ErrForm))
 	if e != api.OK {
 		return Picture{}, e
 	}

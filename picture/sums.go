@@ -1,23 +1,22 @@
 package picture
 
 import (
-	"slices"
-
 	"genlock/api"
+	"genlock/common"
 )
 
 // Sum returns the sum of two pictures.
 func Sum(a, b Picture) (Picture, api.Errno) {
-	e := first(
+	e := common.First(
 		CheckPicture(a),
 		CheckPicture(b),
-		errorIf(a.Width != b.Width || a.Height != b.Height, api.ErrShape),
+		common.ErrorIf(a.Width != b.Width || a.Height != b.Height, api.ErrShape),
 	)
 	if e != api.OK {
 		return Picture{}, e
 	}
-	sums := levels(a)
-	for i, n := range levels(b) {
+	sums := common.Levels(a.Samples)
+	for i, n := range common.Levels(b.Samples) {
 		sums[i] += n
 	}
 	return withLevels(a, sums)
@@ -25,11 +24,11 @@ func Sum(a, b Picture) (Picture, api.Errno) {
 
 // Scaled returns the scaled picture.
 func Scaled(p Picture, num, den int) (Picture, api.Errno) {
-	e := first(CheckPicture(p), outside(num, -MaxScale, MaxScale), outside(den, 1, MaxScale))
+	e := common.First(CheckPicture(p), common.Outside(num, -MaxScale, MaxScale), common.Outside(den, 1, MaxScale))
 	if e != api.OK {
 		return Picture{}, e
 	}
-	return withLevels(p, mapped(levels(p), func(n int) int { return nearest(n*num, den) }))
+	return withLevels(p, common.Mapped(common.Levels(p.Samples), func(n int) int { return common.Nearest(n*num, den) }))
 }
 
 // Energy returns the energy of a picture.
@@ -38,7 +37,7 @@ func Energy(p Picture) (int, api.Errno) {
 		return 0, e
 	}
 	energy := 0
-	for _, n := range levels(p) {
+	for _, n := range common.Levels(p.Samples) {
 		energy += n * n
 	}
 	return energy, api.OK
@@ -50,7 +49,7 @@ func Peak(p Picture) (int, api.Errno) {
 		return 0, e
 	}
 	peak := 0
-	for _, n := range levels(p) {
+	for _, n := range common.Levels(p.Samples) {
 		peak = max(peak, n, -n)
 	}
 	return peak, api.OK
@@ -62,34 +61,20 @@ func Mean(p Picture) (api.Ratio, api.Errno) {
 		return api.Ratio{}, e
 	}
 	sum := 0
-	for _, n := range levels(p) {
+	for _, n := range common.Levels(p.Samples) {
 		sum += n
 	}
-	den := parts * len(p.Samples)
-	common := divisor(sum, den)
+	den := common.Parts * len(p.Samples)
+	common := common.Divisor(sum, den)
 	return api.Ratio{Num: sum / common, Den: den / common}, api.OK
-}
-
-// levels returns the integers of the samples of a picture.
-func levels(p Picture) []int {
-	return mapped(p.Samples, level)
 }
 
 // withLevels returns a picture with the name and the size of p, and the samples with these integers; ErrLarge if one is not a sample's.
 func withLevels(p Picture, l []int) (Picture, api.Errno) {
-	if slices.ContainsFunc(l, isLarge) {
-		return Picture{}, api.ErrLarge
+	samples, e := common.Samples(l)
+	if e != api.OK {
+		return Picture{}, e
 	}
-	p.Samples = mapped(l, sample)
+	p.Samples = samples
 	return p, api.OK
-}
-
-// nearest returns the integer nearest to n / den, from the middle the greater one; den is above 0.
-func nearest(n, den int) int {
-	doubled, by := 2*n+den, 2*den
-	quotient := doubled / by
-	if doubled%by < 0 { // a quotient of Go is cut off towards 0
-		quotient--
-	}
-	return quotient
 }

@@ -1,0 +1,122 @@
+package common
+
+import (
+	"strings"
+)
+
+// maxDigits is how many digits an integer of a text has at most.
+const maxDigits = 9
+
+// Line is what the words of a line say, behind the first one: words that are no integers, and integers.
+type Line struct {
+	Words   []string
+	Numbers []int
+}
+
+// Form says where the lines with a first word stand, and reads the words behind it; Read reports whether they are right.
+type Form struct {
+	Stands func(at int) bool
+	Read   func(take func() (string, bool)) (Line, bool)
+}
+
+// IsFirst reports whether an index is that of the first line.
+func IsFirst(at int) bool {
+	return at == 0
+}
+
+// IsLater reports whether an index is that of a line behind the first one.
+func IsLater(at int) bool {
+	return at > 0
+}
+
+// PrintLine adds a line with these words to a text.
+func PrintLine(text *strings.Builder, words ...string) {
+	text.WriteString(strings.Join(words, " "))
+	text.WriteByte('\n')
+}
+
+// ReadLines returns what the lines of a text say, by the forms of their first words, the number of lines, and true; if a line is wrong, it returns the index of the first such one, and false.
+func ReadLines(text string, forms map[string]Form) ([]Line, int, bool) {
+	lines := splitLines(text)
+	read := make([]Line, len(lines))
+	for at, line := range lines {
+		l, ok := readLine(forms, line, at)
+		if !ok {
+			return nil, at, false
+		}
+		read[at] = l
+	}
+	return read, len(lines), true
+}
+
+// splitLines returns the lines of a text, each with its line feed. The empty text has one empty line, which is wrong in any place.
+func splitLines(text string) []string {
+	lines := strings.SplitAfter(text, "\n")
+	if n := len(lines); n > 1 && lines[n-1] == "" {
+		return lines[:n-1]
+	}
+	return lines
+}
+
+// readLine returns what the line at an index says, and whether it has its form.
+func readLine(forms map[string]Form, line string, at int) (Line, bool) {
+	line, whole := strings.CutSuffix(line, "\n")
+	words := &wordList{rest: strings.Split(line, " ")}
+	take := words.take
+	word, _ := take()
+	form, known := forms[word]
+	if !whole || !known || !form.Stands(at) {
+		return Line{}, false
+	}
+	return form.Read(take)
+}
+
+// ReadNumbers reads integers up to the end of a line.
+func ReadNumbers(take func() (string, bool)) (Line, bool) {
+	var l Line
+	for word, ok := take(); ok; word, ok = take() {
+		n, right := number(word)
+		if !right {
+			return Line{}, false
+		}
+		l.Numbers = append(l.Numbers, n)
+	}
+	return l, true
+}
+
+// number returns the integer of a word, and whether it is one. The digits are counted first, so that no word is too long for an int.
+func number(word string) (int, bool) {
+	digits, negative := strings.CutPrefix(word, "-")
+	if len(digits) < 1 || len(digits) > maxDigits {
+		return 0, false
+	}
+	if digits[0] == '0' && (negative || len(digits) > 1) {
+		return 0, false
+	}
+	n := 0
+	for _, r := range digits {
+		if r < '0' || r > '9' {
+			return 0, false
+		}
+		n = 10*n + int(r-'0')
+	}
+	if negative {
+		return -n, true
+	}
+	return n, true
+}
+
+// wordList is words of which one after the other is taken.
+type wordList struct {
+	rest []string
+}
+
+// take returns the next word, and whether there is one.
+func (l *wordList) take() (string, bool) {
+	if len(l.rest) == 0 {
+		return "", false
+	}
+	word := l.rest[0]
+	l.rest = l.rest[1:]
+	return word, true
+}

@@ -1,0 +1,59 @@
+package common
+
+import (
+	"slices"
+
+	"genlock/api"
+)
+
+// Parts is how many levels lie between two whole numbers.
+const Parts = 16
+
+// maxLevel is the greatest level.
+const maxLevel = api.MaxValue * Parts
+
+// Level returns the integer of a sample.
+func Level(x float32) int {
+	return int(x * Parts)
+}
+
+// Sample returns the sample with an integer; it is never -0.
+func Sample(level int) float32 {
+	return float32(level) / Parts
+}
+
+// IsLarge reports whether an integer is not that of a sample.
+func IsLarge(level int) bool {
+	return level < -maxLevel || level > maxLevel
+}
+
+// Levels returns the integers of samples.
+func Levels(l []float32) []int {
+	return Mapped(l, Level)
+}
+
+// Samples returns the samples with these integers; ErrLarge if one is not a sample's.
+func Samples(l []int) ([]float32, api.Errno) {
+	if slices.ContainsFunc(l, IsLarge) {
+		return nil, api.ErrLarge
+	}
+	return Mapped(l, Sample), api.OK
+}
+
+// Nearest returns the integer nearest to n / den, from the middle the greater one; den is above 0.
+func Nearest(n, den int) int {
+	doubled, by := 2*n+den, 2*den
+	quotient := doubled / by
+	if doubled%by < 0 { // a quotient of Go is cut off towards 0
+		quotient--
+	}
+	return quotient
+}
+
+// Divisor returns the greatest common divisor of two numbers; it is 0 for two zeros.
+func Divisor(a, b int) int {
+	for b != 0 {
+		a, b = b, a%b
+	}
+	return max(a, -a)
+}
