@@ -99,26 +99,14 @@ func among(l []int, low, high int) int {
 
 // loudnessOf returns the loudness of sound without an error. A sum has at most 60 bits, so that it fits.
 func loudnessOf(sound []float32, taps []int, block int) []int {
-	levels := common.Levels(sound)
-	sums := make([]int, len(levels)/block)
+	sums := make([]int, len(sound)/block)
 	for i := range sums {
 		for n := i * block; n < (i+1)*block; n++ {
-			x := filtered(levels, taps, n)
+			x := common.Tapped(sound, taps, n, -1, common.Level)
 			sums[i] += x * x
 		}
 	}
 	return sums
-}
-
-// filtered returns the sum of the taps times the levels up to the index n.
-func filtered(levels, taps []int, n int) int {
-	sum := 0
-	for j, tap := range taps {
-		if j <= n {
-			sum += tap * levels[n-j]
-		}
-	}
-	return sum
 }
 
 // sequenceError returns the error of a sequence, or OK.
@@ -143,9 +131,5 @@ func soundError(sound []float32) api.Errno {
 
 // tapsError returns the error of taps, or OK.
 func tapsError(taps []int) api.Errno {
-	return common.First(
-		common.ErrorIf(len(taps) == 0, api.ErrEmpty),
-		common.ErrorIf(len(taps) > MaxTaps, api.ErrMany),
-		common.FirstOf(taps, func(n int) api.Errno { return common.Outside(n, -MaxTap, MaxTap) }),
-	)
+	return common.TapsError(taps, MaxTaps, MaxTap)
 }

@@ -35,7 +35,7 @@ func Parse(s string) (Curve, int, api.Errno) {
 		return nil, 0, api.ErrLong
 	}
 	lines, at, ok := common.ReadLines(s, lineForms())
-	if !ok {
+	if !ok || len(lines) == 0 {
 		return nil, at, api.ErrSyntax
 	}
 	c := common.Mapped(lines[1:], func(l common.Line) Point {

@@ -2,6 +2,7 @@ package common_test
 
 import (
 	"fmt"
+	"math"
 	"strings"
 	"testing"
 
@@ -25,6 +26,24 @@ func TestErrors(t *testing.T) {
 	check := func(n int) api.Errno { return common.Outside(n, -1, 2) }
 	want(t, "FirstOf", results(common.FirstOf(nil, check), common.FirstOf([]int{-1, 2}, check), common.FirstOf([]int{0, 3}, check), common.FirstOf([]int{-2}, check)), api.OK, api.OK, api.ErrRange, api.ErrRange)
 	want(t, "ErrorIf", results(common.ErrorIf(true, api.ErrMany), common.ErrorIf(false, api.ErrMany)), api.ErrMany, api.OK)
+	for s, e := range map[api.Span]api.Errno{{From: 0, To: 3}: api.OK, {From: 2, To: 3}: api.OK, {From: 2, To: 4}: api.ErrSpan, {From: 1, To: 1}: api.ErrSpan, {From: 2, To: 1}: api.ErrSpan, {From: -1, To: 1}: api.ErrSpan, {From: 3, To: 3}: api.ErrSpan, {From: math.MinInt, To: math.MaxInt}: api.ErrSpan} {
+		want(t, s, results(common.SpanError(s, 3)), e)
+	}
+}
+
+func TestTaps(t *testing.T) {
+	for _, x := range []struct {
+		taps []int
+		e    api.Errno
+	}{{[]int{-9, 9}, api.OK}, {[]int{0}, api.OK}, {nil, api.ErrEmpty}, {[]int{1, 10, 1}, api.ErrMany}, {[]int{9, 10}, api.ErrRange}, {[]int{-10}, api.ErrRange}} {
+		want(t, x, results(common.TapsError(x.taps, 2, 9)), x.e)
+	}
+	digits := func(at, step int, taps ...int) int {
+		return common.Tapped([]string{"1", "22", "333"}, taps, at, step, func(s string) int { return len(s) })
+	}
+	want(t, "taps before", results(digits(0, -1, 1, 10, 100), digits(1, -1, 1, 10, 100), digits(2, -1, 1, 10, 100, 1000)), 1, 12, 123)
+	want(t, "taps behind", results(digits(0, 1, 1, 10, 100, 1000), digits(1, 1, 1, 10, 100), digits(2, 1, 1, 10, 100)), 321, 32, 3)
+	want(t, "no list", results(common.Tapped(nil, []int{1, 2}, 0, 1, common.Level)), 0)
 }
 
 func TestNumbers(t *testing.T) {
@@ -35,6 +54,11 @@ func TestNumbers(t *testing.T) {
 	for _, x := range []struct{ n, den, nearest int }{{7, 2, 4}, {-7, 2, -3}, {8, 3, 3}, {7, 3, 2}, {-8, 3, -3}, {-7, 3, -2}, {0, 5, 0}, {6, 3, 2}, {-6, 3, -2}, {1, 2, 1}, {-1, 2, 0}} {
 		want(t, x, results(common.Nearest(x.n, x.den)), x.nearest)
 	}
+	var powers []api.Gauss
+	for n := range 6 {
+		powers = append(powers, common.Power(n))
+	}
+	want(t, "Power", results(powers), []api.Gauss{{Re: 1}, {Im: -1}, {Re: -1}, {Im: 1}, {Re: 1}, {Im: -1}})
 	want(t, "Divisor", results(common.Divisor(12, 18), common.Divisor(-12, 18), common.Divisor(12, -18), common.Divisor(0, -5), common.Divisor(7, 0), common.Divisor(0, 0)), 6, 6, 6, 5, 7, 0)
 }
 
@@ -48,7 +72,8 @@ func TestLines(t *testing.T) {
 	common.PrintLine(&text, "line", "0", "-12", "999999999")
 	want(t, "PrintLine", results(text.String()), "head\nline 0 -12 999999999\n")
 	want(t, "ReadLines", results(common.ReadLines(text.String(), forms)), []common.Line{{}, {Numbers: []int{0, -12, 999999999}}}, 2, true)
-	for s, at := range map[string]int{"": 0, "\n": 0, "head": 0, "line 1\n": 0, "head\nhead\n": 1, "head\nline 1\n\n": 2, "head\nline 1": 1, "head\nline \n": 1, "head\nother\n": 1} {
+	want(t, "no line", results(common.ReadLines("", forms)), []common.Line(nil), 0, true)
+	for s, at := range map[string]int{"\n": 0, "head": 0, "line 1\n": 0, "head\nhead\n": 1, "head\nline 1\n\n": 2, "head\nline 1": 1, "head\nline \n": 1, "head\nother\n": 1} {
 		want(t, s, results(common.ReadLines(s, forms)), []common.Line(nil), at, false)
 	}
 	for _, word := range []string{"", "-", "-0", "00", "01", "-01", "+1", "1a", "a1", "--1", "1-", "1234567890", "-1234567890", "0x1", "1_0", "\xff", "\u0661"} {

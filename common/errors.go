@@ -33,6 +33,11 @@ func ErrorIf(wrong bool, e api.Errno) api.Errno {
 	return api.OK
 }
 
+// SpanError returns ErrSpan if a span is empty, or not within n things, otherwise OK.
+func SpanError(s api.Span, n int) api.Errno {
+	return ErrorIf(s.From < 0 || s.From >= s.To || s.To > n, api.ErrSpan)
+}
+
 // Outside returns ErrRange if a number is not from low to high, otherwise OK.
 func Outside(n, low, high int) api.Errno {
 	return ErrorIf(n < low || n > high, api.ErrRange)

@@ -35,7 +35,7 @@ func PrintLine(text *strings.Builder, words ...string) {
 	text.WriteByte('\n')
 }
 
-// ReadLines returns what the lines of a text say, by the forms of their first words, the number of lines, and true; if a line is wrong, it returns the index of the first such one, and false.
+// ReadLines returns what the lines of a text say, by the forms of their first words, the number of lines, and true (the empty text has no lines); if a line is wrong, it returns the index of the first such one, and false.
 func ReadLines(text string, forms map[string]Form) ([]Line, int, bool) {
 	lines := splitLines(text)
 	read := make([]Line, len(lines))
@@ -49,11 +49,11 @@ func ReadLines(text string, forms map[string]Form) ([]Line, int, bool) {
 	return read, len(lines), true
 }
 
-// splitLines returns the lines of a text, each with its line feed. The empty text has one empty line, which is wrong in any place.
+// splitLines returns the lines of a text, each with its line feed; what stands behind the last line feed is a line, too, if it is not empty.
 func splitLines(text string) []string {
 	lines := strings.SplitAfter(text, "\n")
-	if n := len(lines); n > 1 && lines[n-1] == "" {
-		return lines[:n-1]
+	if last := len(lines) - 1; lines[last] == "" {
+		return lines[:last]
 	}
 	return lines
 }

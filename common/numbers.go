@@ -9,6 +9,9 @@ import (
 // Parts is how many levels lie between two whole numbers.
 const Parts = 16
 
+// powers has the powers of -i, from the power 0 on.
+var powers = [4]api.Gauss{{Re: 1}, {Im: -1}, {Re: -1}, {Im: 1}}
+
 // maxLevel is the greatest level.
 const maxLevel = api.MaxValue * Parts
 
@@ -48,6 +51,11 @@ func Nearest(n, den int) int {
 		quotient--
 	}
 	return quotient
+}
+
+// Power returns -i to the power of n.
+func Power(n int) api.Gauss {
+	return powers[n&3]
 }
 
 // Divisor returns the greatest common divisor of two numbers; it is 0 for two zeros.

@@ -5,9 +5,6 @@ import (
 	"genlock/common"
 )
 
-// powers has the powers of -i, from the power 0 on.
-var powers = [4]api.Gauss{{Re: 1}, {Im: -1}, {Re: -1}, {Im: 1}}
-
 // back is the power of -i that is i: with it a transform is undone, but for the divisor 4.
 const back = 3
 
@@ -49,7 +46,7 @@ func turned(numbers [4]complex64, step int) [4]complex64 {
 	var sums [4]complex64
 	for k := range 4 {
 		for n, z := range numbers {
-			power := powers[step*k*n%4]
+			power := common.Power(step * k * n)
 			sums[k] += z * complex(float32(power.Re), float32(power.Im))
 		}
 	}

@@ -51,7 +51,7 @@ func At(p Picture, x, y int) (float32, api.Errno) {
 
 // Cropped returns the part in some columns and rows.
 func Cropped(p Picture, columns, rows api.Span) (Picture, api.Errno) {
-	e := common.First(CheckPicture(p), spanError(columns, p.Width), spanError(rows, p.Height))
+	e := common.First(CheckPicture(p), common.SpanError(columns, p.Width), common.SpanError(rows, p.Height))
 	if e != api.OK {
 		return Picture{}, e
 	}
@@ -171,9 +171,4 @@ func blank(name string, width, height int) Picture {
 // row returns the samples of a row, in the memory of the picture.
 func row(p Picture, y int) []float32 {
 	return p.Samples[y*p.Width : (y+1)*p.Width]
-}
-
-// spanError returns the error of a span of columns or rows of which there are n.
-func spanError(s api.Span, n int) api.Errno {
-	return common.ErrorIf(s.From < 0 || s.From >= s.To || s.To > n, api.ErrSpan)
 }

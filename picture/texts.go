@@ -37,7 +37,7 @@ func Parse(s string) (Picture, int, api.Errno) {
 		return Picture{}, 0, api.ErrLong
 	}
 	lines, at, ok := common.ReadLines(s, lineForms())
-	if !ok {
+	if !ok || len(lines) == 0 {
 		return Picture{}, at, api.ErrSyntax
 	}
 	p, e := fromLines(lines)
