@@ -11,8 +11,8 @@ import (
 // lineForms returns the forms of lines by their first words.
 func lineForms() map[string]common.Form {
 	return map[string]common.Form{
-		"curve": {Stands: common.IsFirst, Read: readIntegers(1)},
-		"point": {Stands: common.IsLater, Read: readIntegers(2)},
+		"curve": {Stands: common.IsFirst, Read: common.ReadWords(0, 1)},
+		"point": {Stands: common.IsLater, Read: common.ReadWords(0, 2)},
 	}
 }
 
@@ -46,12 +46,4 @@ func Parse(s string) (Curve, int, api.Errno) {
 		return nil, at, e
 	}
 	return c, 0, api.OK
-}
-
-// readIntegers returns what reads a number of integers.
-func readIntegers(n int) func(take func() (string, bool)) (common.Line, bool) {
-	return func(take func() (string, bool)) (common.Line, bool) {
-		l, ok := common.ReadNumbers(take)
-		return l, ok && len(l.Numbers) == n
-	}
 }

@@ -73,10 +73,21 @@ func TestLines(t *testing.T) {
 	want(t, "PrintLine", results(text.String()), "head\nline 0 -12 999999999\n")
 	want(t, "ReadLines", results(common.ReadLines(text.String(), forms)), []common.Line{{}, {Numbers: []int{0, -12, 999999999}}}, 2, true)
 	want(t, "no line", results(common.ReadLines("", forms)), []common.Line(nil), 0, true)
-	for s, at := range map[string]int{"\n": 0, "head": 0, "line 1\n": 0, "head\nhead\n": 1, "head\nline 1\n\n": 2, "head\nline 1": 1, "head\nline \n": 1, "head\nother\n": 1} {
-		want(t, s, results(common.ReadLines(s, forms)), []common.Line(nil), at, false)
+	for s, at := range map[string]int{"\n": 0, "head": 0, "line 1\n": 0, "head\nhead\n": 1, "head\nline 1\n\n": 2, "head\nline 1": 1, "head\nline \n": 1, "head\nother\nline 1\n": 1} {
+		want(t, s, results(common.ReadLines(s, forms)), []common.Line{{}, {Numbers: []int{1}}}[:at], at, false)
 	}
 	for _, word := range []string{"", "-", "-0", "00", "01", "-01", "+1", "1a", "a1", "--1", "1-", "1234567890", "-1234567890", "0x1", "1_0", "\xff", "\u0661"} {
 		want(t, word, results(common.ReadLines("head "+word+"\n", forms)), []common.Line(nil), 0, false)
+	}
+}
+
+func TestWords(t *testing.T) {
+	forms := map[string]common.Form{
+		"place": {Stands: common.IsAny, Read: common.ReadWords(2, 1)},
+		"end":   {Stands: common.IsAny, Read: common.ReadWords(0, 0)},
+	}
+	want(t, "ReadWords", results(common.ReadLines("end\nplace a 7 -1\nend\n", forms)), []common.Line{{}, {Words: []string{"a", "7"}, Numbers: []int{-1}}, {}}, 3, true)
+	for _, s := range []string{"end 1\n", "end \n", "place\n", "place a\n", "place a b\n", "place a  1\n", "place  b 1\n", "place a b c\n", "place a b 1 2\n", "place a b 1 \n", "place   1\n"} {
+		want(t, s, results(common.ReadLines(s, forms)), []common.Line(nil), 0, false)
 	}
 }

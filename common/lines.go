@@ -1,6 +1,7 @@
 package common
 
 import (
+	"slices"
 	"strings"
 )
 
@@ -29,22 +30,27 @@ func IsLater(at int) bool {
 	return at > 0
 }
 
+// IsAny reports that a line may stand at every index.
+func IsAny(int) bool {
+	return true
+}
+
 // PrintLine adds a line with these words to a text.
 func PrintLine(text *strings.Builder, words ...string) {
 	text.WriteString(strings.Join(words, " "))
 	text.WriteByte('\n')
 }
 
-// ReadLines returns what the lines of a text say, by the forms of their first words, the number of lines, and true (the empty text has no lines); if a line is wrong, it returns the index of the first such one, and false.
+// ReadLines returns what the lines of a text say, by the forms of their first words, the number of lines, and true (the empty text has no lines); if a line is wrong, it returns what the lines before the first such one say, its index, and false.
 func ReadLines(text string, forms map[string]Form) ([]Line, int, bool) {
 	lines := splitLines(text)
-	read := make([]Line, len(lines))
+	var read []Line
 	for at, line := range lines {
 		l, ok := readLine(forms, line, at)
 		if !ok {
-			return nil, at, false
+			return read, at, false
 		}
-		read[at] = l
+		read = append(read, l)
 	}
 	return read, len(lines), true
 }
@@ -69,6 +75,20 @@ func readLine(forms map[string]Form, line string, at int) (Line, bool) {
 		return Line{}, false
 	}
 	return form.Read(take)
+}
+
+// ReadWords returns what reads a line of so many words, which are not empty, and so many integers behind them.
+func ReadWords(words, numbers int) func(take func() (string, bool)) (Line, bool) {
+	return func(take func() (string, bool)) (Line, bool) {
+		var taken []string
+		for range words {
+			word, _ := take()
+			taken = append(taken, word)
+		}
+		l, ok := ReadNumbers(take)
+		l.Words = taken
+		return l, ok && len(l.Numbers) == numbers && !slices.Contains(taken, "")
+	}
 }
 
 // ReadNumbers reads integers up to the end of a line.

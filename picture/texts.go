@@ -12,7 +12,7 @@ import (
 // lineForms returns the forms of lines by their first words.
 func lineForms() map[string]common.Form {
 	return map[string]common.Form{
-		"picture": {Stands: common.IsFirst, Read: readHead},
+		"picture": {Stands: common.IsFirst, Read: common.ReadWords(1, 2)},
 		"row":     {Stands: common.IsLater, Read: readRow},
 	}
 }
@@ -45,14 +45,6 @@ func Parse(s string) (Picture, int, api.Errno) {
 		return Picture{}, at, e
 	}
 	return p, 0, api.OK
-}
-
-// readHead reads a name, the width and the height.
-func readHead(take func() (string, bool)) (common.Line, bool) {
-	name, _ := take()
-	l, ok := common.ReadNumbers(take)
-	l.Words = []string{name}
-	return l, ok && name != "" && len(l.Numbers) == 2
 }
 
 // readRow reads at least one integer.
