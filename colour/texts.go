@@ -11,8 +11,8 @@ import (
 // lineForms returns the forms of lines by their first words.
 func lineForms() map[string]common.Form {
 	return map[string]common.Form{
-		"curve": {Stands: common.IsFirst, Read: common.ReadWords(0, 1)},
-		"point": {Stands: common.IsLater, Read: common.ReadWords(0, 2)},
+		"curve": {Stands: common.IsFirst, Read: common.ReadParts(common.Integer)},
+		"point": {Stands: common.IsLater, Read: common.ReadParts(common.Integer, common.Integer)},
 	}
 }
 

@@ -71,23 +71,38 @@ func TestLines(t *testing.T) {
 	common.PrintLine(&text, "head")
 	common.PrintLine(&text, "line", "0", "-12", "999999999")
 	want(t, "PrintLine", results(text.String()), "head\nline 0 -12 999999999\n")
-	want(t, "ReadLines", results(common.ReadLines(text.String(), forms)), []common.Line{{}, {Numbers: []int{0, -12, 999999999}}}, 2, true)
+	want(t, "ReadLines", results(common.ReadLines(text.String(), forms)), []common.Line{{First: "head"}, {First: "line", Numbers: []int{0, -12, 999999999}}}, 2, true)
 	want(t, "no line", results(common.ReadLines("", forms)), []common.Line(nil), 0, true)
 	for s, at := range map[string]int{"\n": 0, "head": 0, "line 1\n": 0, "head\nhead\n": 1, "head\nline 1\n\n": 2, "head\nline 1": 1, "head\nline \n": 1, "head\nother\nline 1\n": 1} {
-		want(t, s, results(common.ReadLines(s, forms)), []common.Line{{}, {Numbers: []int{1}}}[:at], at, false)
+		want(t, s, results(common.ReadLines(s, forms)), []common.Line{{First: "head"}, {First: "line", Numbers: []int{1}}}[:at], at, false)
 	}
 	for _, word := range []string{"", "-", "-0", "00", "01", "-01", "+1", "1a", "a1", "--1", "1-", "1234567890", "-1234567890", "0x1", "1_0", "\xff", "\u0661"} {
 		want(t, word, results(common.ReadLines("head "+word+"\n", forms)), []common.Line(nil), 0, false)
 	}
 }
 
-func TestWords(t *testing.T) {
+func TestParts(t *testing.T) {
 	forms := map[string]common.Form{
-		"place": {Stands: common.IsAny, Read: common.ReadWords(2, 1)},
-		"end":   {Stands: common.IsAny, Read: common.ReadWords(0, 0)},
+		"place": {Stands: common.IsAny, Read: common.ReadParts(common.Word, common.Word, common.Integer)},
+		"state": {Stands: common.IsAny, Read: common.ReadParts(common.Count, common.Word, common.OneOf("on", "off"), common.Count)},
+		"end":   {Stands: common.IsAny, Read: common.ReadParts()},
 	}
-	want(t, "ReadWords", results(common.ReadLines("end\nplace a 7 -1\nend\n", forms)), []common.Line{{}, {Words: []string{"a", "7"}, Numbers: []int{-1}}, {}}, 3, true)
-	for _, s := range []string{"end 1\n", "end \n", "place\n", "place a\n", "place a b\n", "place a  1\n", "place  b 1\n", "place a b c\n", "place a b 1 2\n", "place a b 1 \n", "place   1\n"} {
+	want(t, "ReadParts", results(common.ReadLines("end\nplace a 7 -1\nstate 0 - off 999999999\nend\n", forms)), []common.Line{{First: "end"}, {First: "place", Words: []string{"a", "7"}, Numbers: []int{-1}}, {First: "state", Words: []string{"-", "off"}, Numbers: []int{0, 999999999}}, {First: "end"}}, 4, true)
+	for _, s := range []string{"end 1\n", "end \n", "place\n", "place a\n", "place a b\n", "place a  1\n", "place  b 1\n", "place a b c\n", "place a b 1 2\n", "place a b 1 \n", "place   1\n", "place a b 01\n", "state -1 a on 1\n", "state -0 a on 1\n", "state 00 a on 1\n", "state 1 a on -1\n", "state 1 a On 1\n", "state 1 a  1\n", "state 1  on 1\n", "state 1 a on\n", "state 1 a on 1 1\n", "state a 1 on 1\n"} {
 		want(t, s, results(common.ReadLines(s, forms)), []common.Line(nil), 0, false)
+	}
+}
+
+func TestPlacesOfLines(t *testing.T) {
+	forms := map[string]common.Form{
+		"a": {Stands: common.IsFirst, Read: common.ReadNumbers},
+		"b": {Stands: func(before string) bool { return before == "a" }, Read: common.ReadNumbers},
+		"c": {Stands: common.IsLater, Read: common.ReadNumbers},
+		"d": {Stands: common.IsAny, Read: common.ReadNumbers},
+	}
+	for s, at := range map[string]int{"a b c d": 4, "d d c c": 4, "d c d": 3, "b": 0, "c": 0, "a a": 1, "d a": 1, "a b b": 2, "a c b": 2, "d b": 1} {
+		text := strings.ReplaceAll(s, " ", "\n") + "\n"
+		_, lines, ok := common.ReadLines(text, forms)
+		want(t, s, results(lines, ok), at, at == strings.Count(text, "\n"))
 	}
 }

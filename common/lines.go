@@ -8,30 +8,34 @@ import (
 // maxDigits is how many digits an integer of a text has at most.
 const maxDigits = 9
 
-// Line is what the words of a line say, behind the first one: words that are no integers, and integers.
+// Line is the first word of a line, and what the words behind it say: words that are no integers, and integers.
 type Line struct {
+	First   string
 	Words   []string
 	Numbers []int
 }
 
-// Form says where the lines with a first word stand, and reads the words behind it; Read reports whether they are right.
+// Form says where the lines with a first word stand, and reads the words behind it; Read reports whether they are right. Stands gets the first word of the line before, which is empty for the first line alone.
 type Form struct {
-	Stands func(at int) bool
+	Stands func(before string) bool
 	Read   func(take func() (string, bool)) (Line, bool)
 }
 
-// IsFirst reports whether an index is that of the first line.
-func IsFirst(at int) bool {
-	return at == 0
+// Part adds what a word says to a line, and reports whether it is right.
+type Part func(l *Line, word string) bool
+
+// IsFirst reports whether a line with this one before it is the first one.
+func IsFirst(before string) bool {
+	return before == ""
 }
 
-// IsLater reports whether an index is that of a line behind the first one.
-func IsLater(at int) bool {
-	return at > 0
+// IsLater reports whether a line with this one before it stands behind the first one.
+func IsLater(before string) bool {
+	return before != ""
 }
 
-// IsAny reports that a line may stand at every index.
-func IsAny(int) bool {
+// IsAny reports that a line may stand everywhere.
+func IsAny(string) bool {
 	return true
 }
 
@@ -45,12 +49,14 @@ func PrintLine(text *strings.Builder, words ...string) {
 func ReadLines(text string, forms map[string]Form) ([]Line, int, bool) {
 	lines := splitLines(text)
 	var read []Line
+	before := ""
 	for at, line := range lines {
-		l, ok := readLine(forms, line, at)
+		l, ok := readLine(forms, line, before)
 		if !ok {
 			return read, at, false
 		}
 		read = append(read, l)
+		before = l.First
 	}
 	return read, len(lines), true
 }
@@ -64,30 +70,59 @@ func splitLines(text string) []string {
 	return lines
 }
 
-// readLine returns what the line at an index says, and whether it has its form.
-func readLine(forms map[string]Form, line string, at int) (Line, bool) {
+// readLine returns what a line says, and whether it has its form, and stands where it may.
+func readLine(forms map[string]Form, line, before string) (Line, bool) {
 	line, whole := strings.CutSuffix(line, "\n")
 	words := &wordList{rest: strings.Split(line, " ")}
 	take := words.take
 	word, _ := take()
 	form, known := forms[word]
-	if !whole || !known || !form.Stands(at) {
+	if !whole || !known || !form.Stands(before) {
 		return Line{}, false
 	}
-	return form.Read(take)
+	l, ok := form.Read(take)
+	l.First = word
+	return l, ok
 }
 
-// ReadWords returns what reads a line of so many words, which are not empty, and so many integers behind them.
-func ReadWords(words, numbers int) func(take func() (string, bool)) (Line, bool) {
+// ReadParts returns what reads a line of these parts, each of them one word.
+func ReadParts(parts ...Part) func(take func() (string, bool)) (Line, bool) {
 	return func(take func() (string, bool)) (Line, bool) {
-		var taken []string
-		for range words {
-			word, _ := take()
-			taken = append(taken, word)
+		var l Line
+		for _, add := range parts {
+			word, ok := take()
+			if !ok || !add(&l, word) {
+				return Line{}, false
+			}
 		}
-		l, ok := ReadNumbers(take)
-		l.Words = taken
-		return l, ok && len(l.Numbers) == numbers && !slices.Contains(taken, "")
+		_, more := take()
+		return l, !more
+	}
+}
+
+// Word adds a word that is not empty.
+func Word(l *Line, word string) bool {
+	l.Words = append(l.Words, word)
+	return word != ""
+}
+
+// Integer adds an integer.
+func Integer(l *Line, word string) bool {
+	n, right := number(word)
+	l.Numbers = append(l.Numbers, n)
+	return right
+}
+
+// Count adds an integer without a sign.
+func Count(l *Line, word string) bool {
+	return Integer(l, word) && !strings.HasPrefix(word, "-")
+}
+
+// OneOf returns what adds a word that is one of these.
+func OneOf(words ...string) Part {
+	return func(l *Line, word string) bool {
+		l.Words = append(l.Words, word)
+		return slices.Contains(words, word)
 	}
 }
 

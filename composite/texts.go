@@ -15,9 +15,12 @@ var names = [3]string{"luma", "u", "v"}
 // lineForms returns the forms of lines by their first words.
 func lineForms() map[string]common.Form {
 	forms := map[string]common.Form{}
-	for place, name := range names {
-		isThere := func(at int) bool { return at == place }
+	last := ""
+	for _, name := range names {
+		behind := last
+		isThere := func(before string) bool { return before == behind }
 		forms[name] = common.Form{Stands: isThere, Read: common.ReadNumbers}
+		last = name
 	}
 	return forms
 }

@@ -12,7 +12,7 @@ import (
 // lineForms returns the forms of lines by their first words.
 func lineForms() map[string]common.Form {
 	return map[string]common.Form{
-		"picture": {Stands: common.IsFirst, Read: common.ReadWords(1, 2)},
+		"picture": {Stands: common.IsFirst, Read: common.ReadParts(common.Word, common.Integer, common.Integer)},
 		"row":     {Stands: common.IsLater, Read: readRow},
 	}
 }

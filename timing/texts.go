@@ -1,7 +1,6 @@
 package timing
 
 import (
-	"slices"
 	"strconv"
 	"strings"
 
@@ -12,8 +11,8 @@ import (
 // lineForms returns the forms of lines by their first words.
 func lineForms() map[string]common.Form {
 	return map[string]common.Form{
-		"node": {Stands: common.IsAny, Read: common.ReadWords(1, 0)},
-		"edge": {Stands: common.IsAny, Read: readEdge},
+		"node": {Stands: common.IsAny, Read: common.ReadParts(common.Word)},
+		"edge": {Stands: common.IsAny, Read: common.ReadParts(common.Word, common.Word, common.Count, common.Count)},
 	}
 }
 
@@ -46,12 +45,6 @@ func Parse(s string) (Net, int, api.Errno) {
 		return Net{}, at, e
 	}
 	return n, 0, api.OK
-}
-
-// readEdge reads two words and two integers that have no sign.
-func readEdge(take func() (string, bool)) (common.Line, bool) {
-	l, ok := common.ReadWords(2, 2)(take)
-	return l, ok && !slices.ContainsFunc(l.Numbers, func(n int) bool { return n < 0 })
 }
 
 // fromLines returns the net of the lines of a text that stand before the first edge of a node that no line before it has, and their number.
