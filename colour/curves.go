@@ -4,6 +4,7 @@ import (
 	"genlock/api"
 	"genlock/common"
 	"genlock/picture"
+	"genlock/raster"
 )
 
 // Point is an input of a curve, and its output.
@@ -24,8 +25,8 @@ func CheckCurve(c Curve) api.Errno {
 	before := Point{In: -MaxLevel - 1, Out: -MaxLevel - 1} // below every point
 	for _, p := range c {
 		e := common.First(
-			levelError(p.In),
-			levelError(p.Out),
+			common.LevelError(p.In),
+			common.LevelError(p.Out),
 			common.ErrorIf(p.In <= before.In || p.Out <= before.Out, api.ErrOrder),
 		)
 		if e != api.OK {
@@ -38,7 +39,7 @@ func CheckCurve(c Curve) api.Errno {
 
 // Value returns the value of a curve at a level.
 func Value(c Curve, level int) (int, api.Errno) {
-	if e := common.First(CheckCurve(c), levelError(level)); e != api.OK {
+	if e := common.First(CheckCurve(c), common.LevelError(level)); e != api.OK {
 		return 0, e
 	}
 	return pointAt(c, level).Out, api.OK
@@ -49,7 +50,7 @@ func Applied(c Curve, p picture.Picture) (picture.Picture, api.Errno) {
 	if e := common.First(CheckCurve(c), picture.CheckPicture(p)); e != api.OK {
 		return picture.Picture{}, e
 	}
-	return withLevels(p, common.Mapped(common.Levels(p.Samples), func(level int) int {
+	return raster.WithLevels(p, common.Mapped(common.Levels(p.Samples), func(level int) int {
 		return pointAt(c, level).Out
 	}))
 }
@@ -64,7 +65,7 @@ func Inverse(c Curve) (Curve, api.Errno) {
 
 // Survives reports whether a level survives a curve.
 func Survives(c Curve, level int) (bool, api.Errno) {
-	if e := common.First(CheckCurve(c), levelError(level)); e != api.OK {
+	if e := common.First(CheckCurve(c), common.LevelError(level)); e != api.OK {
 		return false, e
 	}
 	there := pointAt(c, level)

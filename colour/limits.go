@@ -7,6 +7,7 @@ import (
 	"genlock/api"
 	"genlock/common"
 	"genlock/picture"
+	"genlock/raster"
 )
 
 // Plane is a limit of colours.
@@ -31,7 +32,7 @@ func Legal(g []Plane, colour [3]int) (bool, api.Errno) {
 
 // Violations returns the violations of three pictures.
 func Violations(g []Plane, p [3]picture.Picture) ([]Violation, api.Errno) {
-	if e := common.First(gamutError(g), picturesError(p)); e != api.OK {
+	if e := common.First(gamutError(g), raster.PicturesError(p[:]...)); e != api.OK {
 		return nil, e
 	}
 	var violations []Violation
@@ -49,24 +50,24 @@ places:
 
 // Clipped returns the clipped picture.
 func Clipped(p picture.Picture, limits api.Interval) (picture.Picture, api.Errno) {
-	if e := common.First(picture.CheckPicture(p), intervalError(limits)); e != api.OK {
+	if e := common.First(picture.CheckPicture(p), common.IntervalError(limits)); e != api.OK {
 		return picture.Picture{}, e
 	}
-	return withLevels(p, common.Mapped(common.Levels(p.Samples), func(level int) int {
+	return raster.WithLevels(p, common.Mapped(common.Levels(p.Samples), func(level int) int {
 		return min(max(level, limits.Low), limits.High)
 	}))
 }
 
 // Luma returns the luma of three pictures.
 func Luma(p [3]picture.Picture, weights [3]int) (picture.Picture, api.Errno) {
-	if e := common.First(picturesError(p), weightsError(weights)); e != api.OK {
+	if e := common.First(raster.PicturesError(p[:]...), weightsError(weights)); e != api.OK {
 		return picture.Picture{}, e
 	}
 	var levels []int
 	for _, colour := range placesOf(p) {
 		levels = append(levels, common.Nearest(dot(weights, colour), Unity))
 	}
-	return withLevels(p[0], levels)
+	return raster.WithLevels(p[0], levels)
 }
 
 // Shaded returns the shaded picture.
@@ -80,7 +81,7 @@ func Shaded(p picture.Picture, columns, rows []int) (picture.Picture, api.Errno)
 		gain := columns[i%p.Width] * rows[i/p.Width]
 		levels[i] = common.Nearest(level*gain, Unity*Unity)
 	}
-	return withLevels(p, levels)
+	return raster.WithLevels(p, levels)
 }
 
 // permits reports whether a plane permits a colour.
@@ -111,14 +112,6 @@ func gamutError(g []Plane) api.Errno {
 // planeError returns the error of a plane, or OK.
 func planeError(p Plane) api.Errno {
 	return common.First(entriesError(p.Normal), common.Outside(p.Most, -MaxSum, MaxSum))
-}
-
-// picturesError returns the error of three pictures of one size, or OK.
-func picturesError(p [3]picture.Picture) api.Errno {
-	return common.First(
-		common.FirstOf(p[:], picture.CheckPicture),
-		common.ErrorIf(size(p[0]) != size(p[1]) || size(p[0]) != size(p[2]), api.ErrShape),
-	)
 }
 
 // weightsError returns the error of the weights of a luma, or OK.

@@ -71,7 +71,7 @@ func Inverted(m Matrix) ([3][3]api.Ratio, api.Errno) {
 func Lost(m Matrix, cube api.Interval) ([][3]int, api.Errno) {
 	e := common.First(
 		CheckMatrix(m),
-		intervalError(cube),
+		common.IntervalError(cube),
 		common.ErrorIf(cube.High-cube.Low >= MaxCube, api.ErrLimit),
 	)
 	if e != api.OK {

@@ -4,6 +4,7 @@ import (
 	"genlock/api"
 	"genlock/common"
 	"genlock/picture"
+	"genlock/raster"
 )
 
 // maxLimit is the greatest limit of a block of sound.
@@ -115,7 +116,7 @@ func sequenceError(l []picture.Picture) api.Errno {
 		return api.ErrMany
 	}
 	return common.FirstOf(l, func(p picture.Picture) api.Errno {
-		return common.First(picture.CheckPicture(p), common.ErrorIf(size(p) != size(l[0]), api.ErrShape))
+		return common.First(picture.CheckPicture(p), common.ErrorIf(raster.Size(p) != raster.Size(l[0]), api.ErrShape))
 	})
 }
 

@@ -46,11 +46,21 @@ func TestTaps(t *testing.T) {
 	want(t, "no list", results(common.Tapped(nil, []int{1, 2}, 0, 1, common.Level)), 0)
 }
 
+func TestLists(t *testing.T) {
+	want(t, "Mapped", results(common.Mapped([]string{"1", "22"}, func(s string) int { return len(s) })), []int{1, 2})
+	want(t, "Paired", results(common.Paired([]string{"a", "b"}, []int{3, 2}, strings.Repeat)), []string{"aaa", "bb"})
+	want(t, "no lists", results(common.Mapped(nil, common.Level), common.Paired(nil, nil, common.Nearest)), []int{}, []int{})
+}
+
 func TestNumbers(t *testing.T) {
 	want(t, "Levels", results(common.Levels([]float32{-1024, -0.0625, 0, 1.5, 1024})), []int{-16384, -1, 0, 24, 16384})
 	want(t, "Samples", results(common.Samples([]int{-16384, -1, 0, 24, 16384})), []float32{-1024, -0.0625, 0, 1.5, 1024}, api.OK)
 	want(t, "Samples", results(common.Samples([]int{0, 16385})), []float32(nil), api.ErrLarge)
 	want(t, "Samples", results(common.Samples([]int{-16385, 0})), []float32(nil), api.ErrLarge)
+	want(t, "LevelError", results(common.LevelError(-16384), common.LevelError(16384), common.LevelError(-16385), common.LevelError(16385)), api.OK, api.OK, api.ErrRange, api.ErrRange)
+	for x, e := range map[api.Interval]api.Errno{{Low: -16384, High: 16384}: api.OK, {Low: 5, High: 5}: api.OK, {Low: 5, High: 4}: api.ErrOrder, {Low: -16385, High: 0}: api.ErrRange, {Low: 0, High: 16385}: api.ErrRange, {Low: 16385, High: 0}: api.ErrRange, {Low: 0, High: -16385}: api.ErrRange} {
+		want(t, x, results(common.IntervalError(x)), e)
+	}
 	for _, x := range []struct{ n, den, nearest int }{{7, 2, 4}, {-7, 2, -3}, {8, 3, 3}, {7, 3, 2}, {-8, 3, -3}, {-7, 3, -2}, {0, 5, 0}, {6, 3, 2}, {-6, 3, -2}, {1, 2, 1}, {-1, 2, 0}} {
 		want(t, x, results(common.Nearest(x.n, x.den)), x.nearest)
 	}

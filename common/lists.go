@@ -8,3 +8,12 @@ func Mapped[A, B any](l []A, change func(A) B) []B {
 	}
 	return changed
 }
+
+// Paired returns a list of what becomes of the elements of two lists with one length, two by two.
+func Paired[A, B, C any](a []A, b []B, change func(A, B) C) []C {
+	changed := make([]C, len(a))
+	for i, x := range a {
+		changed[i] = change(x, b[i])
+	}
+	return changed
+}

@@ -30,6 +30,16 @@ func IsLarge(level int) bool {
 	return level < -maxLevel || level > maxLevel
 }
 
+// LevelError returns ErrRange if an integer is not that of a sample, otherwise OK.
+func LevelError(level int) api.Errno {
+	return ErrorIf(IsLarge(level), api.ErrRange)
+}
+
+// IntervalError returns the error of an interval of levels, or OK.
+func IntervalError(x api.Interval) api.Errno {
+	return First(LevelError(x.Low), LevelError(x.High), ErrorIf(x.Low > x.High, api.ErrOrder))
+}
+
 // Levels returns the integers of samples.
 func Levels(l []float32) []int {
 	return Mapped(l, Level)
