@@ -30,13 +30,9 @@ func Broken(l []picture.Picture, step float32, most, window int) ([]int, api.Err
 		return nil, e
 	}
 	flashes := flashesOf(l, step)
-	var broken []int
-	for n := range l {
-		if among(flashes, n-window+1, n) > most {
-			broken = append(broken, n)
-		}
-	}
-	return broken, api.OK
+	return common.Indices(l, func(n int, _ picture.Picture) bool {
+		return among(flashes, n-window+1, n) > most
+	}), api.OK
 }
 
 // Loudness returns the loudness of sound, block by block.
@@ -58,13 +54,7 @@ func Loud(sound []float32, taps []int, block, limit int) ([]int, api.Errno) {
 	if e != api.OK {
 		return nil, e
 	}
-	var loud []int
-	for i, sum := range loudnessOf(sound, taps, block) {
-		if sum > limit {
-			loud = append(loud, i)
-		}
-	}
-	return loud, api.OK
+	return common.Indices(loudnessOf(sound, taps, block), func(_, sum int) bool { return sum > limit }), api.OK
 }
 
 // flashesOf returns the flashes of a sequence without an error.

@@ -49,6 +49,8 @@ func TestTaps(t *testing.T) {
 func TestLists(t *testing.T) {
 	want(t, "Mapped", results(common.Mapped([]string{"1", "22"}, func(s string) int { return len(s) })), []int{1, 2})
 	want(t, "Paired", results(common.Paired([]string{"a", "b"}, []int{3, 2}, strings.Repeat)), []string{"aaa", "bb"})
+	longer := func(i int, s string) bool { return len(s) > i }
+	want(t, "Indices", results(common.Indices([]string{"1", "2", "333", "", "55555"}, longer), common.Indices([]string{"", ""}, longer), common.Indices(nil, longer)), []int{0, 2, 4}, []int{}, []int{})
 	want(t, "no lists", results(common.Mapped(nil, common.Level), common.Paired(nil, nil, common.Nearest)), []int{}, []int{})
 }
 
@@ -70,6 +72,44 @@ func TestNumbers(t *testing.T) {
 	}
 	want(t, "Power", results(powers), []api.Gauss{{Re: 1}, {Im: -1}, {Re: -1}, {Im: 1}, {Re: 1}, {Im: -1}})
 	want(t, "Divisor", results(common.Divisor(12, 18), common.Divisor(-12, 18), common.Divisor(12, -18), common.Divisor(0, -5), common.Divisor(7, 0), common.Divisor(0, 0)), 6, 6, 6, 5, 7, 0)
+}
+
+func TestStreams(t *testing.T) {
+	want(t, "Parity", results(common.Parity(nil), common.Parity([]byte{7}), common.Parity([]byte{4, 3, 2, 1, 158, 1, 2}), common.Parity([]byte{255, 255, 9})), byte(0), byte(7), byte(153), byte(9))
+	pair := func(s []byte) (string, bool) { return string(s), s[0] == s[1] }
+	found := func(s string, most int) (at []int, l []string) {
+		for i, x := range common.Search([]byte(s), 2, pair) {
+			if at, l = append(at, i), append(l, x); len(l) == most {
+				break
+			}
+		}
+		return at, l
+	}
+	for _, x := range []struct {
+		s    string
+		most int
+		at   []int
+		l    []string
+	}{{"", 9, nil, nil}, {"a", 9, nil, nil}, {"aa", 9, []int{0}, []string{"aa"}}, {"abbbb", 9, []int{1, 3}, []string{"bb", "bb"}}, {"aaabbb", 9, []int{0, 3}, []string{"aa", "bb"}}, {"abab", 9, nil, nil}, {"abccdee", 9, []int{2, 5}, []string{"cc", "ee"}}, {"aabbcc", 2, []int{0, 2}, []string{"aa", "bb"}}} {
+		want(t, x, results(found(x.s, x.most)), x.at, x.l)
+	}
+	again := common.Search([]byte("aab"), 2, pair)
+	for range 2 {
+		n := 0
+		for range again {
+			n++
+		}
+		want(t, "Search again", results(n), 1)
+	}
+}
+
+func TestDigits(t *testing.T) {
+	for s, n := range map[string]int{"0": 0, "7": 7, "00": 0, "09": 9, "59": 59, "000000001": 1, "999999999": 999999999} {
+		want(t, s, results(common.Digits(s)), n, true)
+	}
+	for _, s := range []string{"", "-1", "+1", " 1", "1 ", "1a", "a1", "/", ":", "0000000001", "1234567890", "\xff", "\u0661"} {
+		want(t, s, results(common.Digits(s)), 0, false)
+	}
 }
 
 func TestLines(t *testing.T) {

@@ -139,24 +139,30 @@ func ReadNumbers(take func() (string, bool)) (Line, bool) {
 	return l, true
 }
 
-// number returns the integer of a word, and whether it is one. The digits are counted first, so that no word is too long for an int.
+// number returns the integer of a word, and whether it is one.
 func number(word string) (int, bool) {
 	digits, negative := strings.CutPrefix(word, "-")
-	if len(digits) < 1 || len(digits) > maxDigits {
+	if strings.HasPrefix(digits, "0") && (negative || len(digits) > 1) {
 		return 0, false
 	}
-	if digits[0] == '0' && (negative || len(digits) > 1) {
+	n, right := Digits(digits)
+	if negative {
+		return -n, right
+	}
+	return n, right
+}
+
+// Digits returns the number of a word of 1 to 9 digits, of which the first ones may be 0, and whether it is such a word.
+func Digits(word string) (int, bool) {
+	if len(word) < 1 || len(word) > maxDigits { // what is longer may be too large for an int
 		return 0, false
 	}
 	n := 0
-	for _, r := range digits {
+	for _, r := range word {
 		if r < '0' || r > '9' {
 			return 0, false
 		}
 		n = 10*n + int(r-'0')
-	}
-	if negative {
-		return -n, true
 	}
 	return n, true
 }

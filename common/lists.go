@@ -17,3 +17,14 @@ func Paired[A, B, C any](a []A, b []B, change func(A, B) C) []C {
 	}
 	return changed
 }
+
+// Indices returns the indices of the elements of a list for which something holds, ascending.
+func Indices[T any](l []T, holds func(i int, x T) bool) []int {
+	var indices []int
+	for i, x := range l {
+		if holds(i, x) {
+			indices = append(indices, i)
+		}
+	}
+	return indices
+}

@@ -1,7 +1,7 @@
 package picture
 
 import (
-	"iter"
+	"slices"
 
 	"genlock/api"
 	"genlock/common"
@@ -39,7 +39,7 @@ func Encode(p Packet) ([Size]byte, api.Errno) {
 	}
 	frame := [Size]byte{0: Sync, kindAt: byte(p.Kind), counterAt: byte(p.Counter)}
 	copy(frame[dataAt:parityAt], p.Data[:])
-	frame[parityAt] = parity(frame[kindAt:parityAt])
+	frame[parityAt] = common.Parity(frame[kindAt:parityAt])
 	sum := check(frame[:checkAt], checkFactor, checkModulus)
 	frame[checkAt], frame[checkAt+1] = byte(sum>>8), byte(sum)
 	return frame, api.OK
@@ -66,19 +66,12 @@ func Received(s []byte) ([]Packet, []api.Span, api.Errno) {
 	var packets []Packet
 	var skipped []api.Span
 	next := 0
-	for at := range visited(s) {
-		if at < next {
-			continue
-		}
-		p, ok := packetAt(s, at)
-		if ok {
-			packets = append(packets, p)
-			next = at + Size
-		} else {
-			skipped = withPlace(skipped, at)
-		}
+	for at, p := range common.Search(s, Size, packetOf) {
+		packets = append(packets, p)
+		skipped = withGap(skipped, api.Span{From: next, To: at})
+		next = at + Size
 	}
-	return packets, skipped, api.OK
+	return packets, withGap(skipped, api.Span{From: next, To: len(s)}), api.OK
 }
 
 // Lost returns the counters of a kind that are lost.
@@ -114,24 +107,18 @@ func packetError(p Packet) api.Errno {
 	return common.First(common.Outside(p.Kind, 0, 255), common.Outside(p.Counter, 0, counters-1))
 }
 
-// packetAt returns the packet whose frame the bytes from a place on are, and whether they are one.
-func packetAt(s []byte, at int) (Packet, bool) {
-	if len(s)-at < Size {
-		return Packet{}, false
-	}
-	var frame [Size]byte
-	copy(frame[:], s[at:])
-	p, e := Decode(frame)
+// packetOf returns the packet whose frame these bytes are, and whether they are one.
+func packetOf(s []byte) (Packet, bool) {
+	p, e := Decode([Size]byte(s))
 	return p, e == api.OK
 }
 
-// withPlace returns ascending spans with a place behind them all; spans that touch are one.
-func withPlace(l []api.Span, at int) []api.Span {
-	if n := len(l); n > 0 && l[n-1].To == at {
-		l[n-1].To++
+// withGap returns spans with one more behind them, if it is not empty.
+func withGap(l []api.Span, gap api.Span) []api.Span {
+	if gap.From == gap.To {
 		return l
 	}
-	return append(l, api.Span{From: at, To: at + 1})
+	return append(l, gap)
 }
 
 // following returns a packet like p, but with the counter that follows the last one's.
@@ -140,31 +127,11 @@ func following(last, p Packet) Packet {
 	return p
 }
 
-// parity returns the exclusive or of bytes.
-func parity(s []byte) byte {
-	var parity byte
-	for _, b := range visited(s) {
-		parity ^= b
-	}
-	return parity
-}
-
 // check returns the check of bytes with a factor and a modulus.
 func check(s []byte, factor, modulus int) int {
 	x := 1
-	for _, b := range visited(s) {
+	for b := range slices.Values(s) {
 		x = (factor*x + int(b)) % modulus
 	}
 	return x
-}
-
-// visited returns the places of a stream, with their bytes.
-func visited(s []byte) iter.Seq2[int, byte] {
-	return func(yield func(int, byte) bool) {
-		for at, b := range s {
-			if !yield(at, b) {
-				return
-			}
-		}
-	}
 }
