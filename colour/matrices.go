@@ -61,7 +61,7 @@ func Inverted(m Matrix) ([3][3]api.Ratio, api.Errno) {
 	var inverse [3][3]api.Ratio
 	for i := range 3 {
 		for k := range 3 {
-			inverse[i][k] = ratio(m.Den*cofactor(m, k, i), determinant(m))
+			inverse[i][k] = common.Ratio(m.Den*cofactor(m, k, i), determinant(m))
 		}
 	}
 	return inverse, api.OK
@@ -131,15 +131,6 @@ func determinant(m Matrix) int {
 func cofactor(m Matrix, row, column int) int {
 	r, c := others[row], others[column]
 	return m.Rows[r[0]][c[0]]*m.Rows[r[1]][c[1]] - m.Rows[r[0]][c[1]]*m.Rows[r[1]][c[0]]
-}
-
-// ratio returns a quotient in lowest terms; den is not 0.
-func ratio(num, den int) api.Ratio {
-	by := common.Divisor(num, den)
-	if den < 0 {
-		by = -by
-	}
-	return api.Ratio{Num: num / by, Den: den / by}
 }
 
 // coloursOf returns the colours of a cube, in the order of their levels.

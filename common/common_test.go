@@ -71,6 +71,7 @@ func TestNumbers(t *testing.T) {
 		powers = append(powers, common.Power(n))
 	}
 	want(t, "Power", results(powers), []api.Gauss{{Re: 1}, {Im: -1}, {Re: -1}, {Im: 1}, {Re: 1}, {Im: -1}})
+	want(t, "Ratio", results(common.Ratio(6, 4), common.Ratio(-6, 4), common.Ratio(6, -4), common.Ratio(-6, -4), common.Ratio(0, 5), common.Ratio(0, -5), common.Ratio(7, 7)), api.Ratio{Num: 3, Den: 2}, api.Ratio{Num: -3, Den: 2}, api.Ratio{Num: -3, Den: 2}, api.Ratio{Num: 3, Den: 2}, api.Ratio{Num: 0, Den: 1}, api.Ratio{Num: 0, Den: 1}, api.Ratio{Num: 1, Den: 1})
 	want(t, "Divisor", results(common.Divisor(12, 18), common.Divisor(-12, 18), common.Divisor(12, -18), common.Divisor(0, -5), common.Divisor(7, 0), common.Divisor(0, 0)), 6, 6, 6, 5, 7, 0)
 }
 
@@ -101,6 +102,17 @@ func TestStreams(t *testing.T) {
 		}
 		want(t, "Search again", results(n), 1)
 	}
+}
+
+func TestNumbersOfBytes(t *testing.T) {
+	for _, x := range []struct {
+		n, size int
+		s       []byte
+	}{{0, 1, []byte{0}}, {258, 2, []byte{1, 2}}, {65535, 2, []byte{255, 255}}, {1, 4, []byte{0, 0, 0, 1}}, {10000000, 4, []byte{0, 152, 150, 128}}, {4294967295, 4, []byte{255, 255, 255, 255}}, {0, 0, nil}} {
+		want(t, x, results(common.AppendNumber(nil, x.n, x.size), common.NumberOf(x.s)), x.s, x.n)
+		want(t, x, results(common.AppendNumber([]byte{7, 8}, x.n, x.size)), append([]byte{7, 8}, x.s...))
+	}
+	want(t, "the lowest bytes", results(common.AppendNumber(nil, 66051, 2), common.AppendNumber(nil, -2, 2)), []byte{2, 3}, []byte{255, 254})
 }
 
 func TestDigits(t *testing.T) {

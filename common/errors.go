@@ -1,4 +1,4 @@
-// Package common has what the layers share and no chapter lists: first errors, changed lists, levels, and lines of words. It is no layer, and depends on package api alone.
+// Package common has what the layers share and no chapter lists: first errors, changed lists, levels, quotients, bytes of streams, and lines of words. It is no layer, and depends on package api alone.
 package common
 
 import (

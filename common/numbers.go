@@ -68,6 +68,15 @@ func Power(n int) api.Gauss {
 	return powers[n&3]
 }
 
+// Ratio returns a quotient in lowest terms; den is not 0.
+func Ratio(num, den int) api.Ratio {
+	by := Divisor(num, den)
+	if den < 0 {
+		by = -by
+	}
+	return api.Ratio{Num: num / by, Den: den / by}
+}
+
 // Divisor returns the greatest common divisor of two numbers; it is 0 for two zeros.
 func Divisor(a, b int) int {
 	for b != 0 {

@@ -2,6 +2,26 @@ package common
 
 import "iter"
 
+// byteSize is how many bits a byte has.
+const byteSize = 8
+
+// AppendNumber returns a stream with the lowest bytes of a number behind it, the higher ones first.
+func AppendNumber(s []byte, n, size int) []byte {
+	for i := range size {
+		s = append(s, byte(n>>(byteSize*(size-1-i))))
+	}
+	return s
+}
+
+// NumberOf returns the number with these bytes, the higher ones first.
+func NumberOf(s []byte) int {
+	n := 0
+	for _, b := range s {
+		n = n<<byteSize | int(b)
+	}
+	return n
+}
+
 // Parity returns the exclusive or of bytes.
 func Parity(s []byte) byte {
 	var parity byte

@@ -30,9 +30,9 @@ func Pack(p Picture) ([]byte, api.Errno) {
 	s = append(s, p.Name...)
 	s = append(s, byte(p.Width), byte(p.Height))
 	for _, n := range common.Levels(p.Samples) { // by way of the levels, -0 becomes 0
-		s = appendWord(s, math.Float32bits(common.Sample(n)))
+		s = common.AppendNumber(s, int(math.Float32bits(common.Sample(n))), wordSize)
 	}
-	return appendWord(s, checksum(s)), api.OK
+	return common.AppendNumber(s, checksum(s), wordSize), api.OK
 }
 
 // Unpack returns the picture of a stream.
@@ -52,11 +52,11 @@ func Unpack(s []byte) (Picture, api.Errno) {
 	if e != api.OK {
 		return Picture{}, e
 	}
-	if word(rest[size:]) != checksum(s[:len(s)-wordSize]) {
+	if common.NumberOf(rest[size:]) != checksum(s[:len(s)-wordSize]) {
 		return Picture{}, api.ErrCheck
 	}
-	for i := range p.Width * p.Height {
-		p.Samples = append(p.Samples, math.Float32frombits(word(rest[i*wordSize:])))
+	for word := range slices.Chunk(rest[:size], wordSize) {
+		p.Samples = append(p.Samples, math.Float32frombits(uint32(common.NumberOf(word))))
 	}
 	e = common.First(CheckPicture(p), common.ErrorIf(slices.ContainsFunc(p.Samples, isMinusZero), api.ErrForm))
 	if e != api.OK {
@@ -86,19 +86,9 @@ func unpackHead(s []byte) (Picture, []byte, api.Errno) {
 	return p, rest[length+2:], api.OK
 }
 
-// appendWord returns a stream with four more bytes, the highest one first.
-func appendWord(s []byte, n uint32) []byte {
-	return append(s, byte(n>>24), byte(n>>16), byte(n>>8), byte(n))
-}
-
-// word returns the number of the first four bytes.
-func word(s []byte) uint32 {
-	return uint32(s[0])<<24 | uint32(s[1])<<16 | uint32(s[2])<<8 | uint32(s[3])
-}
-
 // checksum returns the checksum of bytes.
-func checksum(s []byte) uint32 {
-	return uint32(check(s, sumFactor, sumModulus))
+func checksum(s []byte) int {
+	return check(s, sumFactor, sumModulus)
 }
 
 // isMinusZero reports whether a sample is -0.

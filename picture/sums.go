@@ -64,9 +64,7 @@ func Mean(p Picture) (api.Ratio, api.Errno) {
 	for _, n := range common.Levels(p.Samples) {
 		sum += n
 	}
-	den := common.Parts * len(p.Samples)
-	common := common.Divisor(sum, den)
-	return api.Ratio{Num: sum / common, Den: den / common}, api.OK
+	return common.Ratio(sum, common.Parts*len(p.Samples)), api.OK
 }
 
 // withLevels returns a picture with the name and the size of p, and the samples with these integers; ErrLarge if one is not a sample's.
